@@ -1141,7 +1141,8 @@ func TestAnswersOfTablesThatAreNotSound(t *testing.T) {
 
 // roomed lays a list at the front of a greater one that is filled up with another value.
 func roomed[T any](list []T, filler T) ([]T, []T) {
-	whole := append(slices.Clone(list), slices.Repeat([]T{filler}, 9)...)
+	// Nothing lies behind the filler, so that a look at the whole is one up to the capacity.
+	whole := slices.Clip(append(slices.Clone(list), slices.Repeat([]T{filler}, 9)...))
 	return whole[:len(list)], whole
 }
 
