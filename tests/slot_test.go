@@ -37,8 +37,13 @@ func timeMakers() []func() impl.Tables {
 
 // chartByHand paints the slots cycle by cycle, from 0 on up to the frame behind that of MaxCycle.
 func chartByHand(x impl.Tables) []moment {
+	return chartUpTo(x, 50000)
+}
+
+// chartUpTo has all cycles of the frame behind that of this cycle too.
+func chartUpTo(x impl.Tables, cycle int) []moment {
 	chart := []moment{}
-	for frame := 0; len(chart) <= 50000+x.Major; frame++ {
+	for frame := 0; len(chart) <= cycle+x.Major; frame++ {
 		border := len(chart)
 		for range x.Major {
 			chart = append(chart, moment{slot: -1, part: -1, frame: frame})
